@@ -1,0 +1,1 @@
+"""Keepyard: places kept for a while, taken, given back, and rows that wait."""
