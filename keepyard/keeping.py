@@ -31,6 +31,16 @@ class Keeping:
         self.state = GONE
         self.until = None
 
+    def give_back(self, many):
+        self.many = self.many - many
+
+    # Until when it is held stays, wherever it goes.
+    def move_to(self, show):
+        self.show = show
+
+    def pass_to(self, who):
+        self.who = who
+
     def places_kept(self):
         if self.state == HELD or self.state == TAKEN:
             return self.many

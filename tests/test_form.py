@@ -1,6 +1,7 @@
 """Point [1], no chance, files or clock; and the rules of form that a look at the source can tell."""
 
 import ast
+import builtins
 import pathlib
 import re
 import unittest
@@ -23,6 +24,26 @@ NODES_OUT = (
     ast.AsyncFunctionDef, ast.AsyncFor, ast.AsyncWith, ast.Import, ast.SetComp, ast.DictComp, ast.GeneratorExp,
     ast.NamedExpr, ast.Starred, ast.Div,
 )
+
+METHODS = set("""
+    append clear copy count endswith extend find get index insert isalnum isalpha isdigit islower isspace isupper items
+    join keys ljust lower lstrip partition pop remove replace reverse rfind rjust rpartition rsplit rstrip setdefault
+    split splitlines startswith strip update upper values zfill bit_length
+""".split())
+PYTHONS_OWN = set().union(*[dir(kind) for kind in (str, int, list, tuple, dict, set, bytes, Exception)])
+
+
+def methods_and_values(trees):
+    """The names of all methods in the package, and of all values that are given to objects."""
+    methods = set()
+    values = set()
+    for tree in trees:
+        for node in ast.walk(tree):
+            if isinstance(node, ast.ClassDef):
+                methods.update(part.name for part in node.body if isinstance(part, ast.FunctionDef))
+            elif isinstance(node, ast.Attribute) and isinstance(node.ctx, ast.Store):
+                values.add(node.attr)
+    return methods, values
 
 
 def bound_names(tree):
@@ -81,6 +102,44 @@ class FormTest(unittest.TestCase):
                     self.assertNotIsInstance(node.value, (float, bytes, complex), path)
                 if isinstance(node, (ast.FunctionDef, ast.ClassDef)):
                     self.assertEqual(node.decorator_list, [], (path, node.name))
+
+    def test_no_two_files_draw_from_one_another(self):
+        drawn = {}
+        for path, tree in self.trees.items():
+            names = [node.module for node in ast.walk(tree) if isinstance(node, ast.ImportFrom)]
+            drawn["keepyard." + path.stem] = set(names)
+        while drawn:
+            ends = [name for name, names in drawn.items() if not names & set(drawn)]
+            self.assertNotEqual(ends, [], drawn)
+            for name in ends:
+                drawn.pop(name)
+
+    def test_methods_and_values_of_objects(self):
+        methods, values = methods_and_values(self.trees.values())
+        self.assertEqual(methods & values, set())
+        self.assertEqual((methods | values) & PYTHONS_OWN, {"__init__"})
+        for path, tree in self.trees.items():
+            called = {node.func for node in ast.walk(tree) if isinstance(node, ast.Call)}
+            for node in ast.walk(tree):
+                if isinstance(node, ast.Attribute):
+                    if node in called:
+                        self.assertIn(node.attr, methods | METHODS, (path, node.lineno))
+                    else:
+                        self.assertIn(node.attr, values, (path, node.lineno))
+
+    def test_locals_are_not_called_like_classes_or_imports(self):
+        for path, tree in self.trees.items():
+            top = {node.name for node in tree.body if isinstance(node, ast.ClassDef)}
+            for node in tree.body:
+                if isinstance(node, ast.ImportFrom):
+                    top.update(alias.name for alias in node.names)
+            for node in ast.walk(tree):
+                if isinstance(node, ast.arg):
+                    self.assertNotIn(node.arg, top, path)
+                    self.assertNotIn(node.arg, dir(builtins), path)
+                elif isinstance(node, ast.Name) and isinstance(node.ctx, ast.Store):
+                    self.assertNotIn(node.id, top, path)
+                    self.assertNotIn(node.id, dir(builtins), path)
 
     def test_names(self):
         for path, tree in self.trees.items():

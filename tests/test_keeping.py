@@ -53,6 +53,22 @@ class KeepingTest(unittest.TestCase):
             self.assertEqual(told(keeping), (3, "ann", 1, 2, "gone", None))
             self.assertEqual(keeping.places_kept(), 0)
 
+    def test_gives_back_places(self):
+        keeping = Keeping(3, "ann", 1, 4, 5)
+        keeping.give_back(1)
+        self.assertEqual(told(keeping), (3, "ann", 1, 3, "waiting", None))
+        keeping.hold(4)
+        keeping.give_back(2)
+        self.assertEqual(told(keeping), (3, "ann", 1, 1, "held", 9))
+        self.assertEqual(keeping.places_kept(), 1)
+
+    def test_goes_to_another_show_and_another_person(self):
+        keeping = Keeping(3, "ann", 1, 2, 5)
+        keeping.hold(4)
+        keeping.move_to(0)
+        keeping.pass_to("bo")
+        self.assertEqual(told(keeping), (3, "bo", 0, 2, "held", 9))
+
     def test_hundred_figures(self):
         keeping = Keeping(0, "ann", 0, HUNDRED, HUNDRED)
         keeping.hold(HUNDRED + 1)
